@@ -1,0 +1,1 @@
+"""Rows of people who pass a chair, and what the last passes leave."""

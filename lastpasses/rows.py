@@ -1,0 +1,64 @@
+"""Rows of people: what a row is, and what can be read from it."""
+
+from lastpasses.errors import InvalidNumber, InvalidRow, InvalidSize
+from lastpasses.limits import MOST_PEOPLE
+
+GREATEST_HEIGHT = 999
+
+
+def is_whole(value):
+    """Return True if the value is an integer other than True and False."""
+    return isinstance(value, int) and not isinstance(value, bool)
+
+
+def is_height(value):
+    """Return True if the value is a height."""
+    return is_whole(value) and 1 <= value <= GREATEST_HEIGHT
+
+
+def may_be_row(value):
+    """Return True if the value is a tuple with as many elements as a row may have."""
+    return isinstance(value, tuple) and 1 <= len(value) <= MOST_PEOPLE
+
+
+def wrong_person(row):
+    """Return the first index at which no height or an earlier height stands, None if there is none."""
+    for index, person in enumerate(row):
+        if not is_height(person) or person in row[:index]:
+            return index
+    return None
+
+
+def is_row(value):
+    """Return True if the value is a row."""
+    return may_be_row(value) and wrong_person(value) is None
+
+
+def check_row(row):
+    """Raise InvalidRow if the value is not a row."""
+    if not may_be_row(row):
+        raise InvalidRow(None)
+    index = wrong_person(row)
+    if index is not None:
+        raise InvalidRow(index)
+
+
+def check_size(size):
+    """Raise InvalidSize if the value is not the size of a row."""
+    if not is_whole(size) or not 1 <= size <= MOST_PEOPLE:
+        raise InvalidSize(size)
+
+
+def ranks(row):
+    """Return the ranks of the people, in the order of the row."""
+    check_row(row)
+    ascending = sorted(row)
+    return tuple([1 + ascending.index(person) for person in row])
+
+
+def signs(row, height):
+    """Return a string with 1 for each person of at least this height and 0 for each other person."""
+    check_row(row)
+    if not is_whole(height):
+        raise InvalidNumber(height)
+    return "".join(["1" if person >= height else "0" for person in row])

@@ -1,0 +1,126 @@
+"""The interface as the document lists it, and the rules of the language that a test can see."""
+
+import ast
+import inspect
+import importlib
+import pathlib
+import re
+import unittest
+
+PACKAGE = pathlib.Path(__file__).resolve().parent.parent / "lastpasses"
+
+FUNCTIONS = {
+    "rows": {"is_row": "(value)", "ranks": "(row)", "signs": "(row, height)"},
+    "passes": {"single_pass": "(row, kind)", "sitters": "(row, kind)", "after": "(row, word)"},
+}
+
+BARRED_WORDS = (
+    "type typing typing_extensions enum Enum IntEnum StrEnum Flag IntFlag Generic Protocol ABC ABCMeta namedtuple "
+    "NamedTuple TypedDict TYPE_CHECKING abstractmethod"
+).split()
+
+BARRED_NAMES = "register mro elements open input law version_info with_traceback add_note".split()
+
+BUILTINS = (
+    "len range enumerate zip min max sum abs sorted reversed int str bool bytes list tuple dict set frozenset "
+    "isinstance ord repr any all divmod iter next Exception ValueError TypeError KeyError IndexError LookupError "
+    "ZeroDivisionError ArithmeticError OverflowError RuntimeError NotImplementedError AttributeError "
+    "StopIteration NotImplemented super property staticmethod classmethod"
+).split()
+
+SPECIAL = re.compile(r"__[a-z]+__")
+
+
+def files():
+    return sorted(PACKAGE.rglob("*.py"))
+
+
+def names_of(tree):
+    """Every name that the file binds or reads, attributes included."""
+    for node in ast.walk(tree):
+        if isinstance(node, ast.Name):
+            yield node.id
+        elif isinstance(node, ast.Attribute):
+            yield node.attr
+        elif isinstance(node, ast.arg):
+            yield node.arg
+        elif isinstance(node, (ast.FunctionDef, ast.ClassDef)):
+            yield node.name
+
+
+class Interface(unittest.TestCase):
+    def test_functions_stand_in_their_files_with_their_parameters(self):
+        for module_name, functions in FUNCTIONS.items():
+            module = importlib.import_module("lastpasses." + module_name)
+            for name, parameters in functions.items():
+                with self.subTest(module=module_name, name=name):
+                    function = getattr(module, name)
+                    self.assertTrue(inspect.isfunction(function))
+                    self.assertEqual(function.__module__, module.__name__)
+                    self.assertEqual(str(inspect.signature(function)), parameters)
+
+
+class Language(unittest.TestCase):
+    def test_the_folder_contains_only_files_of_the_package(self):
+        for path in PACKAGE.rglob("*"):
+            if "__pycache__" not in path.parts:
+                with self.subTest(path=path.name):
+                    self.assertRegex(path.name, r"\A[a-z0-9_]+\.py\Z")
+
+    def test_sizes_and_characters(self):
+        for path in files():
+            text = path.read_text(encoding="utf-8")
+            with self.subTest(path=path.name):
+                self.assertRegex(text, r"\A[ -~\n]*\Z")
+                self.assertLessEqual(len(text.splitlines()), 399)
+                self.assertLessEqual(max(len(line) for line in text.splitlines()), 120)
+            for node in ast.walk(ast.parse(text)):
+                if isinstance(node, ast.FunctionDef):
+                    with self.subTest(path=path.name, function=node.name):
+                        self.assertLessEqual(node.end_lineno - node.lineno + 1, 40)
+
+    def test_barred_words(self):
+        for path in files():
+            words = set(re.findall(r"\w+", path.read_text(encoding="utf-8")))
+            with self.subTest(path=path.name):
+                self.assertEqual(words & set(BARRED_WORDS), set())
+
+    def test_names(self):
+        for path in files():
+            for name in names_of(ast.parse(path.read_text(encoding="utf-8"))):
+                with self.subTest(path=path.name, name=name):
+                    self.assertNotIn(name, BARRED_NAMES)
+                    self.assertTrue(SPECIAL.fullmatch(name) or not name.startswith("_"))
+
+    def test_only_the_builtins_of_the_language(self):
+        known = set(dir(__builtins__) if not isinstance(__builtins__, dict) else __builtins__)
+        for path in files():
+            tree = ast.parse(path.read_text(encoding="utf-8"))
+            used = {node.id for node in ast.walk(tree) if isinstance(node, ast.Name)}
+            with self.subTest(path=path.name):
+                self.assertEqual((used & known) - set(BUILTINS), set())
+
+    def test_imports_name_the_file_that_defines_the_name(self):
+        for path in files():
+            for node in ast.walk(ast.parse(path.read_text(encoding="utf-8"))):
+                self.assertNotIsInstance(node, ast.Import)
+                if isinstance(node, ast.ImportFrom):
+                    with self.subTest(path=path.name, module=node.module):
+                        self.assertEqual(node.level, 0)
+                        self.assertTrue(node.module.startswith("lastpasses."))
+                        source = PACKAGE / (node.module.split(".", 1)[1] + ".py")
+                        defined = self.defined_names(ast.parse(source.read_text(encoding="utf-8")))
+                        self.assertEqual({alias.name for alias in node.names} - defined, set())
+
+    def defined_names(self, tree):
+        names = set()
+        for node in tree.body:
+            if isinstance(node, (ast.FunctionDef, ast.ClassDef)):
+                names.add(node.name)
+            elif isinstance(node, ast.Assign):
+                names.add(node.targets[0].id)
+        return names
+
+
+if __name__ == "__main__":
+    unittest.main()

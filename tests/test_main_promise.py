@@ -1,0 +1,87 @@
+"""The main promise, as far as it speaks of passes and words alone."""
+
+import unittest
+
+from lastpasses.passes import after, single_pass
+from common import LONG_ROWS, PromiseCase, all_rows, all_words, words_up_to
+
+MOST = 5
+
+
+def effect(word, rows):
+    return tuple(after(row, word) for row in rows)
+
+
+def same_by_letters(one, other, size):
+    """Equal in the last size - 1 letters, or equal altogether if one of them has fewer."""
+    if len(one) < size - 1 or len(other) < size - 1:
+        return one == other
+    return one[len(one) - size + 1:] == other[len(other) - size + 1:]
+
+
+def row_read_backwards(people, word):
+    """The row that the last letters of the word leave, whoever stood where before."""
+    remaining = sorted(people)
+    row = []
+    for kind in reversed(word):
+        if len(remaining) > 1:
+            row.insert(0, remaining.pop(-1 if kind == "T" else 0))
+    return tuple(remaining + row)
+
+
+class SameEffect(PromiseCase):
+    def test_two_words_have_the_same_effect_if_and_only_if_their_last_letters_are_the_same(self):
+        for size in range(1, MOST):
+            rows = all_rows(size)
+            effects = {word: effect(word, rows) for word in words_up_to(size + 1)}
+            for one in effects:
+                for other in effects:
+                    self.assertEqual(effects[one] == effects[other], same_by_letters(one, other, size))
+
+    def test_number_of_effects(self):
+        for size in range(1, MOST + 1):
+            rows = all_rows(size)
+            effects = {effect(word, rows) for word in words_up_to(size + 1)}
+            self.assertEqual(len(effects), 2 ** size - 1)
+
+    def test_only_the_last_letters_of_long_words_count(self):
+        for row in LONG_ROWS:
+            for tail in ("STSTSTSTSTS", "TTTTTSSSSSS", "SSTSSTTTSTS"):
+                for head in ("S", "T", "ST" * 100, "T" * 389):
+                    self.assert_same(after(row, head + tail), after(row, tail))
+
+
+class LastPasses(PromiseCase):
+    def test_the_row_does_not_depend_on_the_row_before(self):
+        for size in range(1, MOST + 1):
+            for length in (size - 1, size, size + 1):
+                for word in all_words(length):
+                    wanted = row_read_backwards(range(1, size + 1), word)
+                    for row in all_rows(size):
+                        self.assert_same(after(row, word), wanted)
+
+    def test_twelve_people(self):
+        for row in LONG_ROWS:
+            for word in ("STSTSTSTSTS", "TTTTTSSSSSS", "SSTSSTTTSTSTTSSSSTT", "ST" * 200):
+                self.assert_same(after(row, word), row_read_backwards(row, word))
+
+    def test_fewer_passes_leave_a_difference(self):
+        for size in range(2, MOST + 1):
+            for word in all_words(size - 2):
+                self.assertGreater(len(set(effect(word, all_rows(size)))), 1)
+
+
+class People(PromiseCase):
+    def test_the_people_stay_the_same(self):
+        for row in LONG_ROWS:
+            for word in ("", "S", "T", "SSTTST"):
+                self.assertEqual(sorted(after(row, word)), sorted(row))
+
+    def test_the_tallest_or_the_shortest_is_held_back_until_the_end(self):
+        for row in LONG_ROWS:
+            self.assertEqual(single_pass(row, "T")[-1], max(row))
+            self.assertEqual(single_pass(row, "S")[-1], min(row))
+
+
+if __name__ == "__main__":
+    unittest.main()
