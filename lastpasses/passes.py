@@ -18,13 +18,36 @@ def check_kind(kind):
         raise InvalidKind(kind)
 
 
-def check_word(word):
-    """Raise InvalidWord if the value is not a word."""
-    if not isinstance(word, str) or len(word) > MOST_LETTERS:
-        raise InvalidWord(None)
+def may_be_word(value):
+    """Return True if the value is a string with as many characters as a word may have."""
+    return isinstance(value, str) and len(value) <= MOST_LETTERS
+
+
+def wrong_letter(word):
+    """Return the index of the first character that is no kind, None if there is none."""
     for index, letter in enumerate(word):
         if not is_kind(letter):
-            raise InvalidWord(index)
+            return index
+    return None
+
+
+def is_word(value):
+    """Return True if the value is a word."""
+    return may_be_word(value) and wrong_letter(value) is None
+
+
+def check_word(word):
+    """Raise InvalidWord if the value is not a word."""
+    if not may_be_word(word):
+        raise InvalidWord(None)
+    index = wrong_letter(word)
+    if index is not None:
+        raise InvalidWord(index)
+
+
+def last_letters(word, most):
+    """Return the last letters of the word, at most so many, for valid values."""
+    return word[max(0, len(word) - most):]
 
 
 def takes_chair(person, sitter, kind):

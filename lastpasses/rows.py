@@ -11,9 +11,14 @@ def is_whole(value):
     return isinstance(value, int) and not isinstance(value, bool)
 
 
+def is_whole_from(value, least, greatest):
+    """Return True if the value is an integer in this range, its ends included."""
+    return is_whole(value) and least <= value <= greatest
+
+
 def is_height(value):
     """Return True if the value is a height."""
-    return is_whole(value) and 1 <= value <= GREATEST_HEIGHT
+    return is_whole_from(value, 1, GREATEST_HEIGHT)
 
 
 def may_be_row(value):
@@ -45,8 +50,14 @@ def check_row(row):
 
 def check_size(size):
     """Raise InvalidSize if the value is not the size of a row."""
-    if not is_whole(size) or not 1 <= size <= MOST_PEOPLE:
+    if not is_whole_from(size, 1, MOST_PEOPLE):
         raise InvalidSize(size)
+
+
+def check_number(number, least, greatest):
+    """Raise InvalidNumber if the value is not an integer in this range, its ends included."""
+    if not is_whole_from(number, least, greatest):
+        raise InvalidNumber(number)
 
 
 def ranks(row):

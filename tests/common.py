@@ -40,6 +40,34 @@ TEXTS = ("", "S", "T", "t", "ST", "170", "(1, 2)", "\n", "~")
 
 NUMBERS = (0, 1, -1, 12, 13, 999, 1000, -(10 ** 59), 10 ** 60 - 1)
 
+# Values that are no word, with the index of InvalidWord.
+WRONG_WORDS = (
+    ("s", 0),
+    ("STs", 2),
+    ("S T", 1),
+    (" ST", 0),
+    ("ST\n", 2),
+    ("?ST?", 0),
+    ("ST0T1", 2),
+    ("S" * 399 + "x", 399),
+    ("x" * 400, 0),
+    ("S" * 401, None),
+    ("ST" * 201, None),
+    ("x" * 401, None),
+    ("?" + "S" * 400, None),
+    ("S" * 2000, None),
+) + tuple((value, None) for value in NUMBERS + ODD_VALUES + (["S"], ("S", "T")))
+
+WRONG_ROWS = (
+    ((), None), (tuple(range(1, 14)), None), ((0,) * 13, None), ([2, 4], None), ("24", None), (None, None),
+    ((0,), 0), ((2, 1000), 1), ((2, 4, 2), 2), ((2, True), 1), ((2, Odd()), 1), ((2, 4, Agreeable()), 2),
+)
+
+# None of these is an integer from 0 to 12.
+WRONG_SEATS = (-1, 13, 400, -(10 ** 59), 10 ** 60 - 1) + ODD_VALUES + TEXTS
+
+WRONG_SIZES = (0, -1, 13, 400, 10 ** 59, -(10 ** 59)) + ODD_VALUES + TEXTS
+
 
 def all_rows(size):
     return list(itertools.permutations(range(1, size + 1)))
@@ -63,6 +91,38 @@ LONG_ROWS = (
 )
 
 
+def rows_of_all_sizes():
+    """Ascending, descending and mixed rows of 1 to 12 people."""
+    return [row[:size] for size in range(1, 13) for row in LONG_ROWS]
+
+
+def walk_at_the_chair(row, kind):
+    """One pass, person by person: who leaves, and who sits down."""
+    coming = list(row)
+    chair = None
+    left = []
+    seated = []
+    while coming:
+        person = coming.pop(0)
+        if chair is None:
+            chair = person
+            seated.append(person)
+        elif (kind == "T" and chair < person) or (kind == "S" and chair > person):
+            left.append(chair)
+            chair = person
+            seated.append(person)
+        else:
+            left.append(person)
+    left.append(chair)
+    return tuple(left), tuple(seated)
+
+
+def walk_word(row, word):
+    for kind in word:
+        row = walk_at_the_chair(row, kind)[0]
+    return row
+
+
 class PromiseCase(unittest.TestCase):
     def assert_error(self, wanted, attribute, value, call, *values, **named):
         """The call raises an error of just this class, with just this attribute and this value."""
@@ -80,3 +140,19 @@ class PromiseCase(unittest.TestCase):
         """Equal, and of the same kinds throughout: 1 does not pass for True."""
         self.assertEqual(repr(found), repr(wanted))
         self.assertEqual(found, wanted)
+
+    def assert_order(self, call, *parts):
+        """Of several wrong arguments, the first one decides.
+
+        Each part is the name of a parameter, a valid value, a wrong value, the class of the error for it, and the
+        name and the value of the attribute.
+        """
+        for wrong in itertools.product((False, True), repeat=len(parts)):
+            if not any(wrong):
+                continue
+            values = {part[0]: part[2] if at_fault else part[1] for part, at_fault in zip(parts, wrong)}
+            error, attribute, value = parts[wrong.index(True)][3:]
+            with self.subTest(call=call.__name__, wrong=wrong):
+                self.assert_error(error, attribute, value, call, *values.values())
+                self.assert_error(error, attribute, value, call, **values)
+                self.assert_error(error, attribute, value, call, **dict(reversed(values.items())))

@@ -55,6 +55,130 @@ raises InvalidWord(index=2)
 """,
 )
 
+DESKS = (
+    """
+>>> from lastpasses.desks import desk
+>>> desk((3, 1, 4, 2), 1, 1)
+(3, 2, 1, 4)
+""",
+    """
+>>> from lastpasses.desks import desk
+>>> desk((3, 1, 4, 2), 3, 2)
+raises TooManySeats(seats=5)
+""",
+    """
+>>> from lastpasses.desks import departures
+>>> departures((3, 1, 4, 2), 1, 1)
+((3, 3), (4, 2), (4, 1), (4, 4))
+""",
+    """
+>>> from lastpasses.desks import split_word
+>>> [split_word('SSTST', 4), split_word('SSTST', 2)]
+[((2, 1), (1, 1)), ((2, 0), (0, 1), (1, 1))]
+""",
+)
+
+PROGRAMS = (
+    """
+>>> from lastpasses.programs import is_program
+>>> [is_program(()), is_program(('S', ('repeat', 0, ()))), is_program(('S', ('repeat', 2, ())))]
+[True, False, True]
+""",
+    """
+>>> from lastpasses.programs import count_passes
+>>> program = ('SST', ('desk', 1, 2), ('repeat', 1000, ('T', ('desk', 1, 0))))
+>>> count_passes(program)
+(1003, 1003)
+""",
+    """
+>>> from lastpasses.programs import last_passes
+>>> program = ('SST', ('desk', 1, 2), ('repeat', 1000, ('T', ('desk', 1, 0))))
+>>> last_passes(program, count=5)
+'STSTS'
+""",
+    """
+>>> from lastpasses.programs import largest_desk
+>>> program = ('SST', ('desk', 1, 2), ('repeat', 1000, ('T', ('desk', 1, 0))))
+>>> largest_desk(program)
+3
+""",
+    """
+>>> from lastpasses.programs import run
+>>> program = ('SST', ('desk', 1, 2), ('repeat', 1000, ('T', ('desk', 1, 0))))
+>>> run((2, 4, 1, 3), program)
+(3, 2, 4, 1)
+""",
+    """
+>>> from lastpasses.programs import run
+>>> run((2, 4), ('T', ('desk', 1, 2)))
+raises TooManySeats(seats=3)
+""",
+    """
+>>> from lastpasses.programs import run
+>>> run((2, 4), ('T', ('repeat', 0, ())))
+raises InvalidProgram(index=1)
+""",
+)
+
+NOTATION = (
+    """
+>>> from lastpasses.notation import format_program
+>>> program = ('SST', ('desk', 1, 2), ('repeat', 1000, ('T', ('desk', 1, 0))))
+>>> format_program(program)
+'SST desk:1:2 ( T desk:1:0 )x1000'
+""",
+    """
+>>> from lastpasses.notation import parse_program
+>>> parse_program('T ( )x3 desk:0:2')
+('T', ('repeat', 3, ()), ('desk', 0, 2))
+""",
+    """
+>>> from lastpasses.notation import parse_program
+>>> parse_program('T  S')
+raises InvalidText(text='T  S')
+""",
+)
+
+EQUALITY = (
+    """
+>>> from lastpasses.equality import shortest
+>>> [shortest('TTSST', 4), shortest('TT', 4)]
+['SST', 'TT']
+""",
+    """
+>>> from lastpasses.equality import same
+>>> [same('TTSST', 'SSST', 4), same('T', 'TT', 3)]
+[True, False]
+""",
+    """
+>>> from lastpasses.equality import difference
+>>> from lastpasses.passes import after
+>>> row = difference('ST', 'TS', 3)
+>>> [difference('TST', 'SST', 3), after(row, 'ST') == after(row, 'TS')]
+[None, False]
+""",
+    """
+>>> from lastpasses.equality import is_constant
+>>> [is_constant('ST', 3), is_constant('ST', 4)]
+[True, False]
+""",
+    """
+>>> from lastpasses.equality import word_count
+>>> word_count(4)
+15
+""",
+    """
+>>> from lastpasses.equality import word_at
+>>> [word_at(3, 0), word_at(3, 2), word_at(3, 4)]
+['', 'T', 'ST']
+""",
+    """
+>>> from lastpasses.equality import number_of
+>>> number_of('TST', 3)
+4
+""",
+)
+
 
 class Examples(unittest.TestCase):
     def run_examples(self, examples):
@@ -68,6 +192,18 @@ class Examples(unittest.TestCase):
 
     def test_passes(self):
         self.run_examples(PASSES)
+
+    def test_desks(self):
+        self.run_examples(DESKS)
+
+    def test_programs(self):
+        self.run_examples(PROGRAMS)
+
+    def test_notation(self):
+        self.run_examples(NOTATION)
+
+    def test_equality(self):
+        self.run_examples(EQUALITY)
 
 
 if __name__ == "__main__":

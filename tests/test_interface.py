@@ -12,6 +12,19 @@ PACKAGE = pathlib.Path(__file__).resolve().parent.parent / "lastpasses"
 FUNCTIONS = {
     "rows": {"is_row": "(value)", "ranks": "(row)", "signs": "(row, height)"},
     "passes": {"single_pass": "(row, kind)", "sitters": "(row, kind)", "after": "(row, word)"},
+    "desks": {
+        "desk": "(row, shorts, talls)", "departures": "(row, shorts, talls)", "split_word": "(word, size)",
+    },
+    "programs": {
+        "is_program": "(value)", "count_passes": "(program)", "last_passes": "(program, *, count=400)",
+        "largest_desk": "(program)", "run": "(row, program)",
+    },
+    "notation": {"format_program": "(program)", "parse_program": "(text)"},
+    "equality": {
+        "shortest": "(word, size)", "same": "(word, other, size)", "difference": "(word, other, size)",
+        "is_constant": "(word, size)", "word_count": "(size)", "word_at": "(size, number)",
+        "number_of": "(word, size)",
+    },
 }
 
 BARRED_WORDS = (

@@ -1,8 +1,11 @@
-"""The main promise, as far as it speaks of passes and words alone."""
+"""The main promise, as far as it speaks of passes, words, desks and programs."""
 
 import unittest
 
+from lastpasses.desks import desk
+from lastpasses.equality import is_constant, same, shortest, word_at, word_count
 from lastpasses.passes import after, single_pass
+from lastpasses.programs import last_passes, run
 from common import LONG_ROWS, PromiseCase, all_rows, all_words, words_up_to
 
 MOST = 5
@@ -69,6 +72,54 @@ class LastPasses(PromiseCase):
         for size in range(2, MOST + 1):
             for word in all_words(size - 2):
                 self.assertGreater(len(set(effect(word, all_rows(size)))), 1)
+
+
+class Desks(PromiseCase):
+    def test_a_desk_has_the_effect_of_its_passes(self):
+        for size in range(1, MOST + 1):
+            for shorts in range(size + 1):
+                for talls in range(size + 1 - shorts):
+                    for row in all_rows(size):
+                        self.assert_same(desk(row, shorts, talls), after(row, "S" * shorts + "T" * talls))
+
+
+class Words(PromiseCase):
+    def test_each_effect_has_one_word_in_the_order(self):
+        for size in range(1, MOST + 1):
+            words = [word_at(size, number) for number in range(word_count(size))]
+            self.assertEqual(len({effect(word, all_rows(size)) for word in words}), 2 ** size - 1)
+            for word in words_up_to(size + 1):
+                self.assertIn(shortest(word, size), words)
+
+    def test_same_and_is_constant_say_what_the_passes_do(self):
+        for size in range(1, MOST):
+            effects = {word: effect(word, all_rows(size)) for word in words_up_to(size + 1)}
+            for one in effects:
+                self.assertIs(is_constant(one, size), len(set(effects[one])) == 1)
+                for other in effects:
+                    self.assertIs(same(one, other, size), effects[one] == effects[other])
+
+
+class Programs(PromiseCase):
+    PROGRAMS = (
+        ("SST", ("desk", 1, 2), ("repeat", 1000, ("T", ("desk", 1, 0)))),
+        (("repeat", 10 ** 30, ("SST", ("repeat", 10 ** 30, ("T", "SS")), ("desk", 0, 1))),),
+        (("desk", 1, 2), ("repeat", 3, ("T",)), ("repeat", 10 ** 30, (("desk", 0, 0),))),
+    )
+
+    def test_only_the_last_passes_count(self):
+        for program in self.PROGRAMS:
+            for row in LONG_ROWS:
+                for size in range(3, 13):
+                    wanted = after(row[:size], last_passes(program))
+                    self.assert_same(run(row[:size], program), wanted)
+                    self.assert_same(after(row[:size], last_passes(program, count=size - 1)), wanted)
+
+    def test_the_row_does_not_depend_on_the_row_before(self):
+        for program in self.PROGRAMS[:2]:
+            for size in range(3, MOST + 1):
+                wanted = row_read_backwards(range(1, size + 1), last_passes(program))
+                self.assertEqual({run(row, program) for row in all_rows(size)}, {wanted})
 
 
 class People(PromiseCase):

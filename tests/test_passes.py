@@ -4,7 +4,10 @@ import unittest
 
 from lastpasses.errors import InvalidKind, InvalidRow, InvalidWord
 from lastpasses.passes import after, single_pass, sitters
-from common import LONG_ROWS, NUMBERS, ODD_VALUES, Agreeable, Odd, PromiseCase, all_rows, words_up_to
+from common import (
+    LONG_ROWS, NUMBERS, ODD_VALUES, WRONG_ROWS, WRONG_WORDS, Odd, PromiseCase, all_rows, walk_at_the_chair, walk_word,
+    words_up_to,
+)
 
 ROWS = ((7,), (1, 999), (999, 1), (20, 40, 10, 30), (170, 180, 165, 190, 150)) + LONG_ROWS
 
@@ -13,56 +16,6 @@ MANY_ROWS = ROWS + tuple(row for size in range(1, 7) for row in all_rows(size))
 WORDS = ("", "S", "T", "ST", "TS", "SSTT", "TTTTTTTT", "SSSSSSSSSSSSSS", "STSTSTSTSTSTS", "TTSTSSSTTTTSSSS")
 
 WRONG_KINDS = ("t", "s", "", "ST", "TT", "S ", " T", "\n", "?") + NUMBERS + ODD_VALUES
-
-# Values that are no word, with the index of InvalidWord.
-WRONG_WORDS = (
-    ("s", 0),
-    ("STs", 2),
-    ("S T", 1),
-    (" ST", 0),
-    ("ST\n", 2),
-    ("?ST?", 0),
-    ("ST0T1", 2),
-    ("S" * 399 + "x", 399),
-    ("x" * 400, 0),
-    ("S" * 401, None),
-    ("ST" * 201, None),
-    ("x" * 401, None),
-    ("?" + "S" * 400, None),
-    ("S" * 2000, None),
-) + tuple((value, None) for value in NUMBERS + ODD_VALUES + (["S"], ("S", "T")))
-
-WRONG_ROWS = (
-    ((), None), (tuple(range(1, 14)), None), ((0,) * 13, None), ([2, 4], None), ("24", None), (None, None),
-    ((0,), 0), ((2, 1000), 1), ((2, 4, 2), 2), ((2, True), 1), ((2, Odd()), 1), ((2, 4, Agreeable()), 2),
-)
-
-
-def walk_at_the_chair(row, kind):
-    """One pass, person by person: who leaves, and who sits down."""
-    coming = list(row)
-    chair = None
-    left = []
-    seated = []
-    while coming:
-        person = coming.pop(0)
-        if chair is None:
-            chair = person
-            seated.append(person)
-        elif (kind == "T" and chair < person) or (kind == "S" and chair > person):
-            left.append(chair)
-            chair = person
-            seated.append(person)
-        else:
-            left.append(person)
-    left.append(chair)
-    return tuple(left), tuple(seated)
-
-
-def walk_word(row, word):
-    for kind in word:
-        row = walk_at_the_chair(row, kind)[0]
-    return row
 
 
 class SinglePass(PromiseCase):

@@ -4,7 +4,7 @@ import unittest
 
 from lastpasses.errors import InvalidNumber, InvalidRow, InvalidSize
 from lastpasses.rows import check_size, is_row, ranks, signs
-from common import LONG_ROWS, NUMBERS, ODD_VALUES, TEXTS, Agreeable, Odd, PromiseCase, all_rows
+from common import LONG_ROWS, NUMBERS, ODD_VALUES, TEXTS, WRONG_SIZES, Agreeable, Odd, PromiseCase, all_rows
 
 ROWS = ((1,), (999,), (1, 999), (999, 1), (170, 180, 165), (20, 40, 10, 30)) + LONG_ROWS
 
@@ -183,7 +183,7 @@ class Sizes(PromiseCase):
             self.assertIsNone(check_size(size))
 
     def test_errors(self):
-        for size in (0, -1, 13, 400, 10 ** 59, -(10 ** 59)) + ODD_VALUES + TEXTS:
+        for size in WRONG_SIZES:
             with self.subTest(size=type(size)):
                 self.assert_error(InvalidSize, "size", size, check_size, size)
 
