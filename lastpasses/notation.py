@@ -39,27 +39,17 @@ def read_number(text):
 
 
 def read_desk(token):
-    """Return the desk that is written so, None if it is not written as one."""
+    """Return the desk that is written so, None if it is not written as one; None stands for a wrong number."""
     parts = token.split(COLON)
     if len(parts) != 3 or parts[0] != DESK:
         return None
-    shorts = read_number(parts[1])
-    talls = read_number(parts[2])
-    if shorts is None or talls is None:
-        return None
-    return DESK, shorts, talls
-
-
-def read_repeat(token, steps):
-    """Return the repeat of these steps that ends with this token, None if its number is wrong."""
-    times = read_number(token[len(END):])
-    return None if times is None else (REPEAT, times, tuple(steps))
+    return DESK, read_number(parts[1]), read_number(parts[2])
 
 
 def read_steps(tokens):
     """Return the tuple of the steps that are written so, None if the parentheses do not match.
 
-    A token that cannot be read stands in it as None. Words and limits are not tested here.
+    None stands for what cannot be read. Words and limits are not tested here.
     """
     # One list of steps for each parenthesis that has not ended yet, behind that of the whole program.
     levels = [[]]
@@ -70,7 +60,7 @@ def read_steps(tokens):
             inner = levels.pop()
             if not levels:
                 return None
-            levels[-1].append(read_repeat(token, inner))
+            levels[-1].append((REPEAT, read_number(token[len(END):]), tuple(inner)))
         elif COLON in token:
             levels[-1].append(read_desk(token))
         else:
@@ -83,7 +73,7 @@ def parse_program(text):
     if not isinstance(text, str):
         raise InvalidText(text)
     program = read_steps(text.split(" ") if text else [])
-    # A space too many leaves an empty token; neither this nor None is a step.
+    # What was wrong stands there as None, or as the empty token that a space too many leaves: it is no program then.
     if not is_program(program):
         raise InvalidText(text)
     return program

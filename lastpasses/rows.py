@@ -1,6 +1,6 @@
 """Rows of people: what a row is, and what can be read from it."""
 
-from lastpasses.errors import InvalidNumber, InvalidRow, InvalidSize
+from lastpasses.errors import InvalidHeights, InvalidNumber, InvalidRow, InvalidSize, OtherPersons
 from lastpasses.limits import MOST_PEOPLE
 
 GREATEST_HEIGHT = 999
@@ -46,6 +46,31 @@ def check_row(row):
     index = wrong_person(row)
     if index is not None:
         raise InvalidRow(index)
+
+
+def check_same_people(row, other):
+    """Raise the error of the first value that is not a row, or OtherPersons if the rows have other people."""
+    check_row(row)
+    check_row(other)
+    if sorted(row) != sorted(other):
+        raise OtherPersons()
+
+
+def wrong_height(heights):
+    """Return the first index at which no height or none greater than the one before it stands, None if none does."""
+    for index, height in enumerate(heights):
+        if not is_height(height) or (index > 0 and height <= heights[index - 1]):
+            return index
+    return None
+
+
+def check_heights(heights):
+    """Raise InvalidHeights if the value is not an ascending tuple of as many heights as a row may have."""
+    if not may_be_row(heights):
+        raise InvalidHeights(None)
+    index = wrong_height(heights)
+    if index is not None:
+        raise InvalidHeights(index)
 
 
 def check_size(size):

@@ -63,6 +63,20 @@ WRONG_ROWS = (
     ((0,), 0), ((2, 1000), 1), ((2, 4, 2), 2), ((2, True), 1), ((2, Odd()), 1), ((2, 4, Agreeable()), 2),
 )
 
+# Values that are not ascending heights, with the index of InvalidHeights.
+WRONG_HEIGHTS = (
+    ((), None), (tuple(range(1, 14)), None), ((0,) * 13, None), ((Odd(),) * 13, None), (tuple(range(1, 2001)), None),
+    ([1, 2, 3], None), ([], None), ("12", None), ("", None), (b"12", None), (None, None), (True, None), (1, None),
+    ({1: 2}, None), ({1, 2}, None), (range(1, 4), None), (Odd(), None), (Agreeable(), None),
+    ((0,), 0), ((1000,), 0), ((-1,), 0), ((10 ** 59,), 0), ((True,), 0), ((False, 1), 0), ((None,), 0), (("1",), 0),
+    (((1, 2),), 0), ((Odd(),), 0), ((Agreeable(),), 0), (([],), 0),
+    ((1, 1), 1), ((2, 1), 1), ((1, True), 1), ((1, 2, True), 2), ((1, 2, 1000), 2), ((1, 2, 3, 3), 3),
+    ((1, 3, 2, 0), 2),
+    ((1, 2, Odd(), 1), 2), ((1, 2, Agreeable()), 2), ((1, 2, "3"), 2), ((1, 2, None, 2), 2),
+    ((1, 2, 3, 4, 5, 6, 7, 8, 9, 10, 11, 11), 11), ((12, 11, 10, 9, 8, 7, 6, 5, 4, 3, 2, 1), 1),
+    ((1, 2, 3, 4, 5, 6, 7, 8, 9, 10, 11, 1000), 11),
+)
+
 # None of these is an integer from 0 to 12.
 WRONG_SEATS = (-1, 13, 400, -(10 ** 59), 10 ** 60 - 1) + ODD_VALUES + TEXTS
 
@@ -135,6 +149,13 @@ class PromiseCase(unittest.TestCase):
         if found is not value:
             self.assertIs(type(found), type(value))
             self.assertEqual(found, value)
+
+    def assert_plain_error(self, wanted, call, *values, **named):
+        """The call raises an error of just this class, which has no attribute."""
+        with self.assertRaises(wanted) as caught:
+            call(*values, **named)
+        self.assertIs(type(caught.exception), wanted)
+        self.assertEqual(vars(caught.exception), {})
 
     def assert_same(self, found, wanted):
         """Equal, and of the same kinds throughout: 1 does not pass for True."""

@@ -179,6 +179,88 @@ EQUALITY = (
 """,
 )
 
+KEPT = (
+    """
+>>> from lastpasses.kept import kept
+>>> kept((3, 5, 1, 4, 2), 2, 1)
+(4, 3)
+""",
+)
+
+FINALS = (
+    """
+>>> from lastpasses.finals import is_final
+>>> [is_final((3, 2, 4, 1)), is_final((1, 3, 2, 4))]
+[True, False]
+""",
+    """
+>>> from lastpasses.finals import final_row
+>>> final_row((1, 2, 3, 4), 'TSTS')
+(3, 2, 4, 1)
+""",
+    """
+>>> from lastpasses.finals import final_row
+>>> final_row((1, 2, 3, 4), 'TS')
+raises WordTooShort(length=2)
+""",
+    """
+>>> from lastpasses.finals import final_word
+>>> final_word((3, 2, 4, 1))
+'STS'
+""",
+    """
+>>> from lastpasses.finals import final_word
+>>> final_word((1, 3, 2, 4))
+raises NotFinal(index=2)
+""",
+    """
+>>> from lastpasses.finals import place_counts
+>>> place_counts(4, 2)
+(3, 3, 2, 0)
+""",
+)
+
+WISHES = (
+    """
+>>> from lastpasses.wishes import count_words
+>>> [count_words((1, 2, 3, 4), ((2, 1),)), count_words((1, 2, 3, 4), ((2, 1), (4, 2)))]
+[3, 1]
+""",
+    """
+>>> from lastpasses.wishes import first_word
+>>> [first_word((1, 2, 3, 4), ((2, 1),)), first_word((1, 2, 3, 4), ((1, 1), (4, 2)))]
+['SST', None]
+""",
+)
+
+REACH = (
+    """
+>>> from lastpasses.reach import reachable
+>>> reachable((1, 2, 3))
+((1, 2, 3), (2, 1, 3), (2, 3, 1), (3, 2, 1))
+""",
+    """
+>>> from lastpasses.reach import reachable
+>>> reachable((1, 2, 3), passes=1)
+((1, 2, 3), (2, 3, 1))
+""",
+    """
+>>> from lastpasses.reach import word_to
+>>> [word_to((2, 4, 1, 3), (4, 2, 3, 1)), word_to((1, 2, 3), (1, 3, 2))]
+['S', None]
+""",
+    """
+>>> from lastpasses.reach import word_to
+>>> word_to((1, 2, 3), (1, 2, 4))
+raises OtherPersons
+""",
+    """
+>>> from lastpasses.reach import mismatches
+>>> [mismatches((1, 2, 3, 4), (1, 3, 2, 4)), mismatches((1, 2, 3), (1, 2, 3))]
+[((0, 1), (1, 1)), ()]
+""",
+)
+
 
 class Examples(unittest.TestCase):
     def run_examples(self, examples):
@@ -204,6 +286,18 @@ class Examples(unittest.TestCase):
 
     def test_equality(self):
         self.run_examples(EQUALITY)
+
+    def test_kept(self):
+        self.run_examples(KEPT)
+
+    def test_finals(self):
+        self.run_examples(FINALS)
+
+    def test_wishes(self):
+        self.run_examples(WISHES)
+
+    def test_reach(self):
+        self.run_examples(REACH)
 
 
 if __name__ == "__main__":

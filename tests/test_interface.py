@@ -25,6 +25,14 @@ FUNCTIONS = {
         "is_constant": "(word, size)", "word_count": "(size)", "word_at": "(size, number)",
         "number_of": "(word, size)",
     },
+    "kept": {"kept": "(row, shorts, talls)"},
+    "finals": {
+        "is_final": "(row)", "final_row": "(heights, word)", "final_word": "(row)", "place_counts": "(size, rank)",
+    },
+    "wishes": {"count_words": "(heights, wishes)", "first_word": "(heights, wishes)"},
+    "reach": {
+        "reachable": "(row, *, passes=None)", "word_to": "(row, other)", "mismatches": "(row, other)",
+    },
 }
 
 BARRED_WORDS = (
@@ -112,6 +120,32 @@ class Language(unittest.TestCase):
             used = {node.id for node in ast.walk(tree) if isinstance(node, ast.Name)}
             with self.subTest(path=path.name):
                 self.assertEqual((used & known) - set(BUILTINS), set())
+
+    def test_no_name_has_two_meanings(self):
+        known = set(dir(__builtins__) if not isinstance(__builtins__, dict) else __builtins__)
+        for path in files():
+            tree = ast.parse(path.read_text(encoding="utf-8"))
+            nodes = list(ast.walk(tree))
+            imported = [alias.name for node in nodes if isinstance(node, ast.ImportFrom) for alias in node.names]
+            top = imported + sorted(self.defined_names(tree))
+            assigned = {node.id for node in nodes if isinstance(node, ast.Name) and isinstance(node.ctx, ast.Store)}
+            parameters = {node.arg for node in nodes if isinstance(node, ast.arg)}
+            with self.subTest(path=path.name):
+                self.assertEqual(len(set(top)), len(top))
+                self.assertEqual((assigned | parameters) & set(imported), set())
+                self.assertEqual((assigned | parameters | set(top)) & known, set())
+
+    def test_no_two_files_import_from_each_other(self):
+        imports = {}
+        for path in files():
+            tree = ast.parse(path.read_text(encoding="utf-8"))
+            modules = [node.module for node in ast.walk(tree) if isinstance(node, ast.ImportFrom)]
+            imports[path.stem] = {module.split(".", 1)[1] for module in modules}
+        while imports:
+            free = [name for name in imports if not imports[name] & set(imports)]
+            self.assertNotEqual(free, [], imports)
+            for name in free:
+                del imports[name]
 
     def test_imports_name_the_file_that_defines_the_name(self):
         for path in files():

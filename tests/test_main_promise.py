@@ -1,11 +1,14 @@
-"""The main promise, as far as it speaks of passes, words, desks and programs."""
+"""The main promise, as far as it speaks of passes, words, desks, programs, final rows and paths."""
 
 import unittest
 
 from lastpasses.desks import desk
 from lastpasses.equality import is_constant, same, shortest, word_at, word_count
+from lastpasses.finals import final_row, final_word
+from lastpasses.kept import kept
 from lastpasses.passes import after, single_pass
 from lastpasses.programs import last_passes, run
+from lastpasses.reach import mismatches, word_to
 from common import LONG_ROWS, PromiseCase, all_rows, all_words, words_up_to
 
 MOST = 5
@@ -120,6 +123,46 @@ class Programs(PromiseCase):
             for size in range(3, MOST + 1):
                 wanted = row_read_backwards(range(1, size + 1), last_passes(program))
                 self.assertEqual({run(row, program) for row in all_rows(size)}, {wanted})
+
+
+class FinalRows(PromiseCase):
+    def test_the_row_is_read_off_the_passes_backwards(self):
+        for size in range(1, MOST + 1):
+            heights = tuple(range(1, size + 1))
+            for length in (size - 1, size, size + 1):
+                for word in all_words(length):
+                    wanted = row_read_backwards(heights, word)
+                    self.assert_same(final_row(heights, word), wanted)
+                    self.assert_same(final_word(wanted), word[length - size + 1:])
+
+    def test_twelve_people(self):
+        for row in LONG_ROWS:
+            for word in ("STSTSTSTSTS", "TTTTTSSSSSS", "SSTSSTTTSTSTTSSSSTT", "ST" * 200):
+                self.assert_same(final_row(tuple(sorted(row)), word), row_read_backwards(row, word))
+
+
+class Paths(PromiseCase):
+    def test_evidence_for_either_answer(self):
+        for size in range(1, MOST):
+            for row in all_rows(size):
+                for other in all_rows(size):
+                    word = word_to(row, other)
+                    pairs = mismatches(row, other)
+                    if word is None:
+                        self.assertNotEqual(pairs, ())
+                        self.check_pairs(row, other, pairs)
+                    else:
+                        self.assertEqual(pairs, ())
+                        self.assert_same(after(row, word), other)
+
+    def check_pairs(self, row, other, pairs):
+        """Whatever the number of last passes, the people kept differ, until no more last passes are possible."""
+        shorts = 0
+        for count, index in pairs:
+            front = other[:len(row) - count]
+            self.assertNotEqual(kept(row, shorts, count - shorts)[index], front[index])
+            shorts += front[-1] == min(front)
+        self.assertNotIn(front[-1], (min(front), max(front)))
 
 
 class People(PromiseCase):

@@ -66,8 +66,9 @@ class IsProgram(PromiseCase):
     def test_number_of_steps(self):
         for inner in range(60):
             for outer in range(60):
-                program = ("S",) * outer + (("repeat", 2, ("T",) * inner),)
-                self.assertIs(is_program(program), outer + 1 + inner <= 60)
+                for step in ("T", ("desk", 0, 1), ("repeat", 1, ())):
+                    program = (step,) * outer + (("repeat", 2, (step,) * inner),)
+                    self.assertIs(is_program(program), outer + 1 + inner <= 60)
 
     def test_number_of_nested_programs(self):
         for depth in range(8):
