@@ -2,9 +2,10 @@
 
 from lastpasses.errors import InvalidKind, InvalidWord
 from lastpasses.limits import MOST_LETTERS
-from lastpasses.rows import check_row
+from lastpasses.rows import check_row, is_name_row
 
 KINDS = ("S", "T")
+MOST_RECORDS = 20
 
 
 def is_kind(value):
@@ -95,3 +96,45 @@ def after(row, word):
     for kind in word:
         people, seated = walk(people, kind)
     return tuple(people)
+
+
+def have_same_names(names, others):
+    """Return True if both values are name rows, with the same names."""
+    return is_name_row(names) and is_name_row(others) and sorted(names) == sorted(others)
+
+
+def is_record(value):
+    """Return True if the value is a record of an observed pass."""
+    if not isinstance(value, tuple) or len(value) != 3:
+        return False
+    return is_kind(value[1]) and have_same_names(value[0], value[2])
+
+
+def may_be_records(value):
+    """Return True if the value is a tuple with as many elements as records may have."""
+    return isinstance(value, tuple) and 1 <= len(value) <= MOST_RECORDS
+
+
+def wrong_record(records, is_right):
+    """Return the index of the first element that is not right or has other names than the first one, None if none is.
+
+    An element that is right is a tuple that begins with a name row.
+    """
+    for index, record in enumerate(records):
+        if not is_right(record) or sorted(record[0]) != sorted(records[0][0]):
+            return index
+    return None
+
+
+def compared_names(record):
+    """Return the list of the pairs (shorter, taller) that the pass of a record compares, None if it was no pass."""
+    before, kind, behind = record
+    sitter = before[0]
+    pairs = []
+    for person, leaver in zip(before[1:], behind):
+        if leaver not in (person, sitter):
+            return None
+        stayer = sitter if leaver == person else person
+        pairs.append((leaver, stayer) if kind == "T" else (stayer, leaver))
+        sitter = stayer
+    return pairs

@@ -66,6 +66,18 @@ def word_to(row, other):
     return None
 
 
+def word_of_length(row, other, length):
+    """Return the word of so many letters, fewer than there are people, that turns the row into the other one.
+
+    There is at most one, since its last letter decides whether the tallest or the shortest stands last, and so on.
+    None if there is none.
+    """
+    words = possible_ends(other)
+    if length >= len(words) or first_mismatch(row, other, words[length]) is not None:
+        return None
+    return words[length]
+
+
 def mismatches(row, other):
     """Return () if `other` comes from `row`, otherwise a pair (count, index) for each count of possible last passes."""
     check_same_people(row, other)

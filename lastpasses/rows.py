@@ -4,6 +4,8 @@ from lastpasses.errors import InvalidHeights, InvalidNumber, InvalidRow, Invalid
 from lastpasses.limits import MOST_PEOPLE
 
 GREATEST_HEIGHT = 999
+LETTERS = "abcdefghijklmnopqrstuvwxyz"
+LONGEST_NAME = 6
 
 
 def is_whole(value):
@@ -71,6 +73,21 @@ def check_heights(heights):
     index = wrong_height(heights)
     if index is not None:
         raise InvalidHeights(index)
+
+
+def is_name(value):
+    """Return True if the value is a name."""
+    if not isinstance(value, str) or not 1 <= len(value) <= LONGEST_NAME:
+        return False
+    return all([letter in LETTERS for letter in value])
+
+
+def is_name_row(value):
+    """Return True if the value is a name row."""
+    if not isinstance(value, tuple) or not 2 <= len(value) <= MOST_PEOPLE:
+        return False
+    # Only strings are compared with each other.
+    return all([is_name(name) for name in value]) and len(set(value)) == len(value)
 
 
 def check_size(size):

@@ -40,6 +40,8 @@ TEXTS = ("", "S", "T", "t", "ST", "170", "(1, 2)", "\n", "~")
 
 NUMBERS = (0, 1, -1, 12, 13, 999, 1000, -(10 ** 59), 10 ** 60 - 1)
 
+WRONG_KINDS = ("t", "s", "", "ST", "TT", "S ", " T", "\n", "?") + NUMBERS + ODD_VALUES
+
 # Values that are no word, with the index of InvalidWord.
 WRONG_WORDS = (
     ("s", 0),

@@ -261,6 +261,100 @@ raises OtherPersons
 """,
 )
 
+ORIGINS = (
+    """
+>>> from lastpasses.origins import origins
+>>> [origins((2, 1, 3), 'T'), origins((2, 1, 3), 'S')]
+[((2, 3, 1), (3, 2, 1)), ()]
+""",
+    """
+>>> from lastpasses.origins import count_origins
+>>> [count_origins((2, 1, 3), 'T', 1), count_origins((1, 2, 3), 'T', 2)]
+[2, 6]
+""",
+)
+
+OBSERVATIONS = (
+    """
+>>> from lastpasses.observations import comparisons
+>>> comparisons((('ann', 'bob', 'cy'), 'T', ('ann', 'cy', 'bob')))
+(('ann', 'bob'), ('cy', 'bob'))
+""",
+    """
+>>> from lastpasses.observations import comparisons
+>>> comparisons((('ann', 'bob', 'cy'), 'T', ('cy', 'bob', 'ann')))
+None
+""",
+    """
+>>> from lastpasses.observations import find_order
+>>> first = (('ann', 'bob', 'cy'), 'T', ('ann', 'cy', 'bob'))
+>>> second = (('cy', 'ann', 'bob'), 'S', ('ann', 'bob', 'cy'))
+>>> third = (('ann', 'bob', 'cy'), 'S', ('ann', 'cy', 'bob'))
+>>> [find_order((first,)), find_order((first, second)), find_order((first, third))]
+[('ann', 'cy', 'bob'), ('cy', 'ann', 'bob'), None]
+""",
+    """
+>>> from lastpasses.observations import count_orders
+>>> records = ((('ann', 'bob', 'cy'), 'T', ('ann', 'cy', 'bob')),)
+>>> count_orders(records)
+2
+""",
+    """
+>>> from lastpasses.observations import is_shorter
+>>> records = ((('ann', 'bob', 'cy'), 'T', ('ann', 'cy', 'bob')),)
+>>> [is_shorter(records, 'cy', 'bob'), is_shorter(records, 'ann', 'cy')]
+[True, False]
+""",
+    """
+>>> from lastpasses.observations import is_shorter
+>>> records = ((('ann', 'bob', 'cy'), 'T', ('ann', 'cy', 'bob')),)
+>>> is_shorter(records, 'ann', 'dee')
+raises UnknownName(name='dee')
+""",
+    """
+>>> from lastpasses.observations import possible_kinds
+>>> pairs = ((('ann', 'bob'), ('bob', 'ann')), (('bob', 'ann'), ('ann', 'bob')))
+>>> possible_kinds(pairs)
+('ST', 'TS')
+""",
+)
+
+PATTERNS = (
+    """
+>>> from lastpasses.patterns import count_readings
+>>> [count_readings((2, 4, 1, 3), '??STS', (3, 2, 4, 1)), count_readings((2, 4, 1, 3), 'T', (4, 2, 3, 1))]
+[4, 0]
+""",
+    """
+>>> from lastpasses.patterns import first_reading
+>>> [first_reading((2, 4, 1, 3), '?T??', (3, 2, 4, 1)), first_reading((2, 4, 1, 3), '?', (4, 2, 3, 1))]
+[None, 'S']
+""",
+    """
+>>> from lastpasses.patterns import first_reading
+>>> first_reading((2, 4), 'S*', (4, 2))
+raises InvalidPattern(index=1)
+""",
+)
+
+CHANCES = (
+    """
+>>> from lastpasses.chances import chance
+>>> [chance((2, 4, 1, 3), (1, 3), 3, (3, 2, 4, 1)), chance((2, 4, 1, 3), (1, 3), 10 ** 30, (3, 2, 4, 1))]
+[(4, 27), (4, 27)]
+""",
+    """
+>>> from lastpasses.chances import mean_index
+>>> mean_index((20, 10), (1, 3), 1, 10)
+(2, 3)
+""",
+    """
+>>> from lastpasses.chances import mean_index
+>>> mean_index((20, 10), (2, 4), 1, 10)
+raises InvalidShare(share=(2, 4))
+""",
+)
+
 
 class Examples(unittest.TestCase):
     def run_examples(self, examples):
@@ -298,6 +392,18 @@ class Examples(unittest.TestCase):
 
     def test_reach(self):
         self.run_examples(REACH)
+
+    def test_origins(self):
+        self.run_examples(ORIGINS)
+
+    def test_observations(self):
+        self.run_examples(OBSERVATIONS)
+
+    def test_patterns(self):
+        self.run_examples(PATTERNS)
+
+    def test_chances(self):
+        self.run_examples(CHANCES)
 
 
 if __name__ == "__main__":

@@ -33,6 +33,13 @@ FUNCTIONS = {
     "reach": {
         "reachable": "(row, *, passes=None)", "word_to": "(row, other)", "mismatches": "(row, other)",
     },
+    "origins": {"origins": "(row, kind)", "count_origins": "(row, kind, times)"},
+    "observations": {
+        "comparisons": "(record)", "find_order": "(records)", "count_orders": "(records)",
+        "is_shorter": "(records, one, other)", "possible_kinds": "(pairs)",
+    },
+    "patterns": {"count_readings": "(row, pattern, other)", "first_reading": "(row, pattern, other)"},
+    "chances": {"chance": "(row, share, steps, other)", "mean_index": "(row, share, steps, height)"},
 }
 
 BARRED_WORDS = (

@@ -5,7 +5,7 @@ import unittest
 from lastpasses.errors import InvalidKind, InvalidRow, InvalidWord
 from lastpasses.passes import after, single_pass, sitters
 from common import (
-    LONG_ROWS, NUMBERS, ODD_VALUES, WRONG_ROWS, WRONG_WORDS, Odd, PromiseCase, all_rows, walk_at_the_chair, walk_word,
+    LONG_ROWS, WRONG_KINDS, WRONG_ROWS, WRONG_WORDS, Odd, PromiseCase, all_rows, walk_at_the_chair, walk_word,
     words_up_to,
 )
 
@@ -14,8 +14,6 @@ ROWS = ((7,), (1, 999), (999, 1), (20, 40, 10, 30), (170, 180, 165, 190, 150)) +
 MANY_ROWS = ROWS + tuple(row for size in range(1, 7) for row in all_rows(size))
 
 WORDS = ("", "S", "T", "ST", "TS", "SSTT", "TTTTTTTT", "SSSSSSSSSSSSSS", "STSTSTSTSTSTS", "TTSTSSSTTTTSSSS")
-
-WRONG_KINDS = ("t", "s", "", "ST", "TT", "S ", " T", "\n", "?") + NUMBERS + ODD_VALUES
 
 
 class SinglePass(PromiseCase):
