@@ -1,17 +1,8 @@
 """Final rows: what enough passes leave, whatever the row was before."""
 
 from lastpasses.errors import NotFinal, WordTooShort
-from lastpasses.passes import check_word
+from lastpasses.passes import check_word, kind_of_last
 from lastpasses.rows import check_heights, check_number, check_row, check_size
-
-
-def kind_of_last(people):
-    """Return T if the last of two or more people is the tallest, S if it is the shortest, None if neither."""
-    if people[-1] == max(people):
-        return "T"
-    if people[-1] == min(people):
-        return "S"
-    return None
 
 
 def kinds_behind_front(row):

@@ -24,10 +24,9 @@ def origins(row, kind):
     """Return the ascending tuple of all rows that one pass of this kind turns into the row."""
     check_row(row)
     check_kind(kind)
-    if not ends_with_held(row, kind, 1):
-        return ()
     # A sitter came just before the people who left while this person sat, and left just behind them. Whoever leads
-    # may have been a sitter. Those who left behind the last sitter so far are waiting for the one they came to.
+    # may have been a sitter. Those who left behind the last sitter so far are waiting for the one they came to; there
+    # is none if the last person of the row does not lead.
     found = [([], [])]
     for person, leads in zip(row, leads_so_far(row, kind)):
         following = [(come, waiting + [person]) for come, waiting in found]

@@ -1,4 +1,4 @@
-"""Passes of a row at the chair, and words of passes."""
+"""Passes of a row at the chair, words of passes, and records of observed passes."""
 
 from lastpasses.errors import InvalidKind, InvalidWord
 from lastpasses.limits import MOST_LETTERS
@@ -96,6 +96,26 @@ def after(row, word):
     for kind in word:
         people, seated = walk(people, kind)
     return tuple(people)
+
+
+def kind_of_last(people):
+    """Return T if the last of two or more people is the tallest, S if it is the shortest, None if neither."""
+    if people[-1] == max(people):
+        return "T"
+    if people[-1] == min(people):
+        return "S"
+    return None
+
+
+def possible_ends(other):
+    """Return the words that may have placed the last people of the row, the shortest word first."""
+    words = [""]
+    for length in range(len(other), 1, -1):
+        kind = kind_of_last(other[:length])
+        if kind is None:
+            break
+        words.append(kind + words[-1])
+    return words
 
 
 def have_same_names(names, others):

@@ -1,10 +1,9 @@
 """Which rows come from a row, by which word, and why others do not."""
 
 from lastpasses.errors import InvalidNumber, TooManyPeople
-from lastpasses.finals import kind_of_last
 from lastpasses.kept import kept
 from lastpasses.limits import MOST_LETTERS, SMALL
-from lastpasses.passes import KINDS, single_pass
+from lastpasses.passes import KINDS, possible_ends, single_pass
 from lastpasses.rows import check_row, check_same_people, is_whole_from
 
 
@@ -35,17 +34,6 @@ def reachable(row, *, passes=None):
                     following.append(result)
         newest = following
     return tuple(sorted(list(seen)))
-
-
-def possible_ends(other):
-    """Return the words that may have placed the last people of the row, the shortest word first."""
-    words = [""]
-    for length in range(len(other), 1, -1):
-        kind = kind_of_last(other[:length])
-        if kind is None:
-            break
-        words.append(kind + words[-1])
-    return words
 
 
 def first_mismatch(row, other, word):

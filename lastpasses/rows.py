@@ -1,4 +1,4 @@
-"""Rows of people: what a row is, and what can be read from it."""
+"""Rows of people: what rows, heights, wishes and names are, and what can be read from a row."""
 
 from lastpasses.errors import InvalidHeights, InvalidNumber, InvalidRow, InvalidSize, OtherPersons
 from lastpasses.limits import MOST_PEOPLE
@@ -66,6 +66,11 @@ def wrong_height(heights):
     return None
 
 
+def is_heights(value):
+    """Return True if the value is an ascending tuple of as many heights as a row may have."""
+    return may_be_row(value) and wrong_height(value) is None
+
+
 def check_heights(heights):
     """Raise InvalidHeights if the value is not an ascending tuple of as many heights as a row may have."""
     if not may_be_row(heights):
@@ -73,6 +78,45 @@ def check_heights(heights):
     index = wrong_height(heights)
     if index is not None:
         raise InvalidHeights(index)
+
+
+def is_wish(value, heights):
+    """Return True if the value is a pair of one of the heights and an index of a row of them."""
+    if not isinstance(value, tuple) or len(value) != 2:
+        return False
+    height, index = value
+    return is_height(height) and height in heights and is_whole_from(index, 0, len(heights) - 1)
+
+
+def wrong_wish(heights, wishes):
+    """Return the index of the first element with which a tuple is no longer wishes, None if there is none."""
+    wished = []
+    for at, wish in enumerate(wishes):
+        if not is_wish(wish, heights):
+            return at
+        height, index = wish
+        if height in wished or (at > 0 and index <= wishes[at - 1][1]):
+            return at
+        wished.append(height)
+    return None
+
+
+def may_stand(person, index, wishes):
+    """Return True if the person is not wished elsewhere and nobody else is wished at this index."""
+    return all([(height == person) == (at == index) for height, at in wishes])
+
+
+def next_steps(heights, wishes, index, shorts):
+    """Return for each person who may be placed at this index the kind, and how many are placed as the shortest then.
+
+    All people behind this index are placed, so many of them as the shortest. At the index 0 there is only one person.
+    """
+    steps = []
+    if may_stand(heights[shorts], index, wishes):
+        steps.append(("S", shorts + 1))
+    if may_stand(heights[shorts + index], index, wishes):
+        steps.append(("T", shorts))
+    return steps
 
 
 def is_name(value):

@@ -1,28 +1,7 @@
 """Words whose final rows have wished people at wished places."""
 
 from lastpasses.errors import InvalidWishes
-from lastpasses.rows import check_heights, is_height, is_whole_from
-
-
-def is_wish(value, heights):
-    """Return True if the value is a pair of one of the heights and an index of a row of them."""
-    if not isinstance(value, tuple) or len(value) != 2:
-        return False
-    height, index = value
-    return is_height(height) and height in heights and is_whole_from(index, 0, len(heights) - 1)
-
-
-def wrong_wish(heights, wishes):
-    """Return the index of the first element with which a tuple is no longer wishes, None if there is none."""
-    wished = []
-    for at, wish in enumerate(wishes):
-        if not is_wish(wish, heights):
-            return at
-        height, index = wish
-        if height in wished or (at > 0 and index <= wishes[at - 1][1]):
-            return at
-        wished.append(height)
-    return None
+from lastpasses.rows import check_heights, may_stand, next_steps, wrong_wish
 
 
 def check_wishes(heights, wishes):
@@ -33,24 +12,6 @@ def check_wishes(heights, wishes):
     index = wrong_wish(heights, wishes)
     if index is not None:
         raise InvalidWishes(index)
-
-
-def may_stand(person, index, wishes):
-    """Return True if the person is not wished elsewhere and nobody else is wished at this index."""
-    return all([(height == person) == (at == index) for height, at in wishes])
-
-
-def next_steps(heights, wishes, index, shorts):
-    """Return for each person who may be placed at this index the kind, and how many are placed as the shortest then.
-
-    All people behind this index, which is not 0, are placed, so many of them as the shortest.
-    """
-    steps = []
-    if may_stand(heights[shorts], index, wishes):
-        steps.append(("S", shorts + 1))
-    if may_stand(heights[shorts + index], index, wishes):
-        steps.append(("T", shorts))
-    return steps
 
 
 def count_words(heights, wishes):

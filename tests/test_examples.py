@@ -355,6 +355,105 @@ raises InvalidShare(share=(2, 4))
 """,
 )
 
+HALL = (
+    """
+>>> from lastpasses.hall import Hall
+>>> hall = Hall((('ann', 170), ('bob', 180), ('cy', 160)))
+>>> hall.run(('S',))
+>>> [hall.names(), hall.heights(), len(hall), str(hall), repr(hall)]
+[('bob', 'ann', 'cy'), (180, 170, 160), 3, 'bob ann cy', 'Hall(3)']
+""",
+    """
+>>> from lastpasses.hall import Hall
+>>> hall = Hall((('ann', 170), ('bob', 180), ('cy', 160)))
+>>> hall.enter('dee', 175)
+>>> hall.leave('bob')
+>>> [hall.people(), hall.log()]
+[(('ann', 170), ('cy', 160), ('dee', 175)), (('enter', 'dee', 175), ('leave', 'bob'))]
+""",
+    """
+>>> from lastpasses.hall import Hall
+>>> hall = Hall((('ann', 170), ('bob', 180), ('cy', 160)))
+>>> hall.enter('dee', 160)
+raises HeightTaken(height=160)
+""",
+    """
+>>> from lastpasses.hall import Hall
+>>> hall = Hall((('ann', 170), ('bob', 180), ('cy', 160)))
+>>> hall.do_all((('run', ('T',)), ('leave', 'eve')))
+raises UnknownName(name='eve')
+""",
+    """
+>>> from lastpasses.hall import Hall
+>>> hall = Hall((('ann', 170), ('bob', 180), ('cy', 160)))
+>>> hall.do_all((('run', ('S',)), ('leave', 'cy')))
+>>> hall.undo()
+>>> [hall.names(), hall.index_of('cy')]
+[('bob', 'ann', 'cy'), 2]
+""",
+    """
+>>> from lastpasses.hall import Hall
+>>> hall = Hall((('ann', 170), ('bob', 180), ('cy', 160)))
+>>> before = hall.settled()
+>>> hall.run(('S', ('repeat', 5, ('T',))))
+>>> [before, hall.settled()]
+[False, True]
+""",
+    """
+>>> from lastpasses.hall import replay
+>>> replay((('ann', 170), ('bob', 180)), (('run', ('S',)), ('enter', 'cy', 175))).names()
+('bob', 'ann', 'cy')
+""",
+)
+
+CHECKER = (
+    """
+>>> from lastpasses.checker import check
+>>> [check(('path', (2, 4, 1, 3), (4, 2, 3, 1)), 'S'), check(('path', (2, 4, 1, 3), (4, 2, 3, 1)), 'T'), check(('no path', (1, 2, 3), (1, 3, 2)), ((0, 1),))]
+[True, False, True]
+""",
+)
+
+PAPERS = (
+    """
+>>> from lastpasses.papers import path_paper
+>>> path_paper((1, 2, 3), (1, 3, 2))
+(('no path', (1, 2, 3), (1, 3, 2)), ((0, 1),))
+""",
+    """
+>>> from lastpasses.papers import word_paper
+>>> word_paper('TTSST', 'SSST', 4)
+(('same', 4, 'TTSST', 'SSST'), None)
+""",
+    """
+>>> from lastpasses.papers import order_paper
+>>> from lastpasses.checker import check
+>>> records = ((('ann', 'bob', 'cy'), 'T', ('ann', 'cy', 'bob')), (('ann', 'bob', 'cy'), 'S', ('ann', 'cy', 'bob')))
+>>> claim, paper = order_paper(records)
+>>> [claim[0], paper[0], check(claim, paper)]
+['no order', 'cycle', True]
+""",
+    """
+>>> from lastpasses.papers import place_paper
+>>> place_paper((1, 2, 3, 4), ((1, 1), (4, 2)))
+(('not placed', (1, 2, 3, 4), ((1, 1), (4, 2))), ((), (), (), ()))
+""",
+)
+
+CONSOLE = (
+    """
+>>> from lastpasses.console import Console
+>>> console = Console((('ann', 170), ('bob', 180)))
+>>> [console.say('run S'), console.say('row'), console.say('settled'), console.say('word bob ann')]
+['ok', 'bob ann', 'yes', '-']
+""",
+    """
+>>> from lastpasses.console import Console
+>>> Console((('ann', 170),)).say('walk')
+raises InvalidCommand(line='walk')
+""",
+)
+
 
 class Examples(unittest.TestCase):
     def run_examples(self, examples):
@@ -404,6 +503,18 @@ class Examples(unittest.TestCase):
 
     def test_chances(self):
         self.run_examples(CHANCES)
+
+    def test_hall(self):
+        self.run_examples(HALL)
+
+    def test_checker(self):
+        self.run_examples(CHECKER)
+
+    def test_papers(self):
+        self.run_examples(PAPERS)
+
+    def test_console(self):
+        self.run_examples(CONSOLE)
 
 
 if __name__ == "__main__":

@@ -40,6 +40,26 @@ FUNCTIONS = {
     },
     "patterns": {"count_readings": "(row, pattern, other)", "first_reading": "(row, pattern, other)"},
     "chances": {"chance": "(row, share, steps, other)", "mean_index": "(row, share, steps, height)"},
+    "hall": {"replay": "(people, log)"},
+    "checker": {"check": "(claim, paper)"},
+    "papers": {
+        "path_paper": "(row, other)", "word_paper": "(word, other, size)", "order_paper": "(records)",
+        "place_paper": "(heights, wishes)",
+    },
+}
+
+# The methods of each class, by the file in which the class stands.
+CLASSES = {
+    "hall": {
+        "Hall": {
+            "__init__": "(self, people)", "run": "(self, program)", "enter": "(self, name, height)",
+            "leave": "(self, name)", "do_all": "(self, deeds, *, watch=None)", "undo": "(self)", "names": "(self)",
+            "heights": "(self)", "people": "(self)", "log": "(self)", "index_of": "(self, name)",
+            "settled": "(self)", "__len__": "(self)", "__eq__": "(self, other)", "__str__": "(self)",
+            "__repr__": "(self)",
+        },
+    },
+    "console": {"Console": {"__init__": "(self, people)", "say": "(self, line)"}},
 }
 
 BARRED_WORDS = (
@@ -55,6 +75,8 @@ BUILTINS = (
     "ZeroDivisionError ArithmeticError OverflowError RuntimeError NotImplementedError AttributeError "
     "StopIteration NotImplemented super property staticmethod classmethod"
 ).split()
+
+BUILTIN_METHODS = {name for kind in (str, int, list, dict, set, bytes, tuple) for name in dir(kind)} - set(dir(object))
 
 SPECIAL = re.compile(r"__[a-z]+__")
 
@@ -86,6 +108,19 @@ class Interface(unittest.TestCase):
                     self.assertTrue(inspect.isfunction(function))
                     self.assertEqual(function.__module__, module.__name__)
                     self.assertEqual(str(inspect.signature(function)), parameters)
+
+    def test_classes_stand_in_their_files_and_define_their_methods_themselves(self):
+        for module_name, classes in CLASSES.items():
+            module = importlib.import_module("lastpasses." + module_name)
+            for class_name, methods in classes.items():
+                found = getattr(module, class_name)
+                self.assertTrue(inspect.isclass(found))
+                self.assertEqual(found.__module__, module.__name__)
+                for name, parameters in methods.items():
+                    with self.subTest(module=module_name, name=name):
+                        self.assertIn(name, vars(found))
+                        self.assertTrue(inspect.isfunction(vars(found)[name]))
+                        self.assertEqual(str(inspect.signature(vars(found)[name])), parameters)
 
 
 class Language(unittest.TestCase):
@@ -165,6 +200,25 @@ class Language(unittest.TestCase):
                         source = PACKAGE / (node.module.split(".", 1)[1] + ".py")
                         defined = self.defined_names(ast.parse(source.read_text(encoding="utf-8")))
                         self.assertEqual({alias.name for alias in node.names} - defined, set())
+
+    def test_no_name_is_a_method_and_an_attribute(self):
+        methods, attributes = set(), set()
+        for path in files():
+            for node in ast.walk(ast.parse(path.read_text(encoding="utf-8"))):
+                if isinstance(node, ast.ClassDef):
+                    methods |= {part.name for part in node.body if isinstance(part, ast.FunctionDef)}
+                elif isinstance(node, ast.Attribute) and isinstance(node.ctx, ast.Store):
+                    attributes.add(node.attr)
+        self.assertEqual(methods & attributes, set())
+        self.assertEqual(attributes & BUILTIN_METHODS - {"index", "count"}, set())
+        self.assertEqual({name for name in methods if not SPECIAL.fullmatch(name)} & BUILTIN_METHODS, set())
+
+    def test_generator_expressions(self):
+        """Where a class has a length and compares itself, the builtins take lists."""
+        for path in files():
+            nodes = list(ast.walk(ast.parse(path.read_text(encoding="utf-8"))))
+            with self.subTest(path=path.name):
+                self.assertFalse([node for node in nodes if isinstance(node, (ast.GeneratorExp, ast.Yield))])
 
     def defined_names(self, tree):
         names = set()

@@ -1,11 +1,14 @@
-"""The main promise, as far as it speaks of passes, words, desks, programs, final rows and paths."""
+"""The main promise: passes, words, desks, programs, final rows, paths, and the evidence for them."""
 
+import itertools
 import unittest
 
+from lastpasses.checker import check
 from lastpasses.desks import desk
 from lastpasses.equality import is_constant, same, shortest, word_at, word_count
 from lastpasses.finals import final_row, final_word
 from lastpasses.kept import kept
+from lastpasses.papers import path_paper, word_paper
 from lastpasses.passes import after, single_pass
 from lastpasses.programs import last_passes, run
 from lastpasses.reach import mismatches, word_to
@@ -163,6 +166,43 @@ class Paths(PromiseCase):
             self.assertNotEqual(kept(row, shorts, count - shorts)[index], front[index])
             shorts += front[-1] == min(front)
         self.assertNotIn(front[-1], (min(front), max(front)))
+
+
+class Evidence(PromiseCase):
+    """Whatever the checker accepts is true, no matter who wrote it, and it accepts the papers of this package."""
+
+    def test_paths(self):
+        for size in range(1, MOST):
+            for row in all_rows(size):
+                reached = {after(row, word) for word in words_up_to(size)}
+                for other in all_rows(size):
+                    claim, paper = path_paper(row, other)
+                    self.assertEqual(claim[0], "path" if other in reached else "no path")
+                    self.assertIs(check(claim, paper), True)
+                    self.assertFalse(any(
+                        check(("no path" if other in reached else "path", row, other), wrong)
+                        for wrong in self.other_papers(row, other)
+                    ))
+
+    def other_papers(self, row, other):
+        yield from words_up_to(3)
+        for many in range(4):
+            for indexes in itertools.product(range(3), repeat=many):
+                yield tuple(enumerate(indexes))
+
+    def test_words(self):
+        for size in range(1, MOST):
+            effects = {word: effect(word, all_rows(size)) for word in words_up_to(size)}
+            for one in effects:
+                for other in effects:
+                    equal = effects[one] == effects[other]
+                    claim, paper = word_paper(one, other, size)
+                    self.assertEqual(claim, ("same" if equal else "different", size, one, other))
+                    self.assertIs(check(claim, paper), True)
+                    self.assertIs(check(("same", size, one, other), None), equal)
+                    if equal:
+                        rows = all_rows(size)
+                        self.assertFalse(any(check(("different", size, one, other), row) for row in rows))
 
 
 class People(PromiseCase):
